@@ -1,6 +1,6 @@
 """The calls on one object: an inspector's plans of looks, drawn by lot, and what the other can make of them."""
 
-from plansoflooks.daysets import agreeing, best_plan, fits, looking, sets_up_to, weight_of
+from plansoflooks.daysets import agreeing, best_plan, fits, looking, sets_up_to, size, weight_of
 from plansoflooks.play import Game
 from plansoflooks.ratio import fraction
 
@@ -107,9 +107,13 @@ def told_fraction(above, below):
     return [0] + fraction(above, below)
 
 
+def best_gain(lots, plans):
+    """What the other can get at best by these plans, times their weight."""
+    return Game(lots.days, lots.fine).best(plans, 0, lots.misdeeds)
+
+
 def tell_reply(lots):
-    gain = Game(lots.days, lots.fine).best(lots.plans, 0, lots.misdeeds)
-    return told_fraction(gain, weight_of(lots.plans))
+    return told_fraction(best_gain(lots, lots.plans), weight_of(lots.plans))
 
 
 def tell_dares(lots):
@@ -139,15 +143,83 @@ def tell_looked(lots, day):
     return told_fraction(weight_of(looking(lots.plans, day)), weight_of(lots.plans))
 
 
+def tell_mean(lots):
+    looks = sum([plan[1] * size(plan[0]) for plan in lots.plans])
+    return told_fraction(looks, weight_of(lots.plans))
+
+
+def most_looks(plans):
+    return max([size(plan[0]) for plan in plans])
+
+
+def tell_most(lots):
+    return [most_looks(lots.plans)]
+
+
+def tell_worth(lots, looks):
+    if looks > lots.days:
+        return [OUT_OF_RANGE]
+    plans = best_plan(lots.days, looks, lots.fine)
+    return told_fraction(best_gain(lots, plans), weight_of(plans))
+
+
+def tell_over(lots):
+    plans = best_plan(lots.days, most_looks(lots.plans), lots.fine)
+    weight = weight_of(lots.plans)
+    best_weight = weight_of(plans)
+    more = best_gain(lots, lots.plans) * best_weight - best_gain(lots, plans) * weight
+    return told_fraction(more, weight * best_weight)
+
+
+def tell_best_chance(lots, looks, days_of_set):
+    if looks > lots.days or not fits(days_of_set, lots.days):
+        return [OUT_OF_RANGE]
+    plans = best_plan(lots.days, looks, lots.fine)
+    drawn = [plan for plan in plans if plan[0] == days_of_set]
+    return told_fraction(weight_of(drawn), weight_of(plans))
+
+
+def tell_best_looked(lots, looks):
+    if looks > lots.days:
+        return [OUT_OF_RANGE]
+    plans = best_plan(lots.days, looks, lots.fine)
+    return told_fraction(weight_of(looking(plans, 0)), weight_of(plans))
+
+
+def outcome(lots):
+    """How often they're caught and how many misdeeds are done unseen, each times the weight of the plans told."""
+    return Game(lots.days, lots.fine).played(lots.plans, 0, lots.misdeeds)
+
+
+def tell_caught(lots):
+    return told_fraction(outcome(lots)[0], weight_of(lots.plans))
+
+
+def tell_done(lots):
+    return told_fraction(outcome(lots)[1], weight_of(lots.plans))
+
+
+def tell_unlooked(lots):
+    without = [plan for plan in lots.plans if plan[0] == 0]
+    return told_fraction(weight_of(without), weight_of(lots.plans))
+
+
+def tell_all(lots):
+    told = [lots.days, lots.misdeeds, lots.fine, len(lots.plans)]
+    for plan in lots.plans:
+        told.extend(plan)
+    return told
+
+
 BEGIN = 0
 
-# How many whole numbers stand behind each call's number: of all calls, so that any of them can be refused.
+# How many whole numbers stand behind each call's number.
 TAKES = (3, 2, 1, 2, 1, 1, 1, 0, 0, 3, 1, 0, 0, 1, 0, 2, 1, 0, 0, 0, 0)
 
 # reply, dares, seen, looked, mean, most, over, caught, done, unlooked
 ASKS_OF_PLANS = (7, 8, 9, 10, 11, 12, 14, 17, 18, 19)
 
-# The calls that are written, each at its number.
+# What does each call, at its number.
 ACTS = (
     begin,
     add_plan,
@@ -160,6 +232,16 @@ ACTS = (
     tell_dares,
     tell_seen,
     tell_looked,
+    tell_mean,
+    tell_most,
+    tell_worth,
+    tell_over,
+    tell_best_chance,
+    tell_best_looked,
+    tell_caught,
+    tell_done,
+    tell_unlooked,
+    tell_all,
 )
 
 
@@ -180,8 +262,6 @@ def answer_to(lots, number, given):
         return [NOT_BEGUN]
     if number in ASKS_OF_PLANS and len(lots.plans) == 0:
         return [NO_PLANS]
-    if number >= len(ACTS):
-        raise NotImplementedError(f"call {number} is not written yet")
     return act_on(lots, number, given)
 
 

@@ -1,5 +1,7 @@
 """Calls by their names, and what an object keeps, read through its calls alone."""
 
+from itertools import combinations
+
 from plansoflooks.lots import answers
 
 NAMES = (
@@ -56,8 +58,27 @@ def last(*calls):
     return ask(*calls)[-1]
 
 
+def laid(days, misdeeds, fine, plans):
+    """The calls that tell just these plans."""
+    return [("begin", days, misdeeds, fine)] + [("plan",) + plan for plan in plans]
+
+
+def some_plans(days):
+    """A spread of up to four plans, sets twice among them, with weights that have little in common."""
+    sets = list(range(1 << days)) * 2
+    picked = [each for count in (1, 2, 3, 4) for each in combinations(sets, count)]
+    step = max(1, len(picked) // 60)
+    for turn, each in enumerate(picked[::step]):
+        yield [(one, (turn * 7 + place * 11) % 13 + 1) for place, one in enumerate(each)]
+
+
+def told_of(days, misdeeds, fine, plans):
+    """What told is to answer of these."""
+    return [days, misdeeds, fine, len(plans)] + [number for plan in plans for number in plan]
+
+
 def state(*calls):
-    """Days, misdeeds, fine and plans behind the calls.
+    """Days, misdeeds, fine and plans behind the calls; it fails where told tells them otherwise.
 
     Weights that are powers of 2 tell by looked which plans look on a day; fair tells by -22 which days are there.
     """
@@ -65,7 +86,8 @@ def state(*calls):
     probe += [("weight", place, 1 << place) for place in range(10)]
     probe += [("looked", day) for day in range(6)]
     probe += [("fair", looks) for looks in range(1, 7)]
-    heard = ask(*calls, *probe)[len(calls):]
+    heard = ask(*calls, ("told",), *probe)[len(calls):]
+    told = heard.pop(0)
     days = len([answer for answer in heard[18:] if answer != [-22]])
     weights = [answer[0] for answer in heard[2:12] if answer != [-2]]
     sets = [0] * len(weights)
@@ -73,4 +95,7 @@ def state(*calls):
         part = heard[12 + day][1] * ((1 << len(weights)) - 1) // heard[12 + day][2]
         for place in range(len(weights)):
             sets[place] += (part >> place & 1) << day
-    return days, heard[0][0], heard[1][0], list(zip(sets, weights))
+    found = days, heard[0][0], heard[1][0], list(zip(sets, weights))
+    if told != told_of(*found):
+        raise AssertionError(f"told {told}, but there are {found}")
+    return found

@@ -1,23 +1,9 @@
 """Promise 2: reply, dares, seen."""
 
 import unittest
-from itertools import combinations
 
 from tests.allways import best_gains, told
-from tests.calling import LARGEST, ask, last, state
-
-
-def laid(days, misdeeds, fine, plans):
-    return [("begin", days, misdeeds, fine)] + [("plan",) + plan for plan in plans]
-
-
-def some_plans(days):
-    """A spread of up to four plans, sets twice among them, with weights that have little in common."""
-    sets = list(range(1 << days)) * 2
-    picked = [each for count in (1, 2, 3, 4) for each in combinations(sets, count)]
-    step = max(1, len(picked) // 60)
-    for turn, each in enumerate(picked[::step]):
-        yield [(one, (turn * 7 + place * 11) % 13 + 1) for place, one in enumerate(each)]
+from tests.calling import LARGEST, ask, laid, last, some_plans, state
 
 
 class Written(unittest.TestCase):
@@ -100,6 +86,13 @@ class EveryWay(unittest.TestCase):
         self.check_play(4, 2, 1, [(3, 2), (5, 3), (9, 1), (6, 4), (0, 5)])
         self.check_play(4, 3, 2, [(8, 5), (1, 1), (14, 2), (10, 2)])
         self.check_play(4, 1, 1, [(1, 1), (2, 3), (4, 4), (8, 7)])
+
+    def test_five_and_six_days(self):
+        self.check_play(5, 2, 1, [(5, 2), (18, 3), (20, 4)])
+        self.check_play(5, 4, 2, [(0, 3), (24, 1), (3, 1)])
+        self.check_play(6, 3, 1, [(33, 1), (6, 2)])
+        self.check_play(6, 6, 3, [(0, 5), (48, 2), (50, 1)])
+        self.check_play(6, 1, 1, [(32, 3), (36, 1), (63, 2)])
 
     def test_seen(self):
         for days in (1, 2, 3):

@@ -1,4 +1,4 @@
-"""Promise 1: begin, plan, drop, weight, misdeeds, fine, fair."""
+"""Promise 1: begin, plan, drop, weight, misdeeds, fine, fair, told."""
 
 import unittest
 from math import comb
@@ -218,6 +218,51 @@ class Fair(unittest.TestCase):
         above = comb(days, looks + 1) - comb(max(days - misdeeds, 0), looks + 1)
         self.assertEqual(heard[0], 0)
         self.assertEqual(heard[1] * below, heard[2] * above)
+
+
+class Told(unittest.TestCase):
+    def test_without_plans(self):
+        for days in range(1, 7):
+            for misdeeds in range(7):
+                for fine in range(1, 10):
+                    heard = last(("begin", days, misdeeds, fine), ("told",))
+                    self.assertEqual(heard, [days, misdeeds, fine, 0])
+
+    def test_each_plan_in_order(self):
+        begun = [("begin", 6, 6, 9), ("plan", 63, 1), ("plan", 0, 1000), ("plan", 63, 2), ("plan", 5, 1)]
+        self.assertEqual(last(*begun, ("told",)), [6, 6, 9, 4, 63, 1, 0, 1000, 63, 2, 5, 1])
+        calls = [("begin", 3, 2, 4)] + TEN + [("told",)]
+        right = [3, 2, 4, 10] + [number for plan in TOLD_TEN for number in plan]
+        self.assertEqual(last(*calls), right)
+
+    def test_one_day(self):
+        self.assertEqual(last(("begin", 1, 0, 1), ("plan", 1, 1), ("told",)), [1, 0, 1, 1, 1, 1])
+
+    def test_follows_each_call(self):
+        calls = [
+            ("begin", 3, 2, 4), ("told",), ("plan", 5, 6), ("told",), ("plan", 5, 7), ("told",),
+            ("weight", 0, 8), ("told",), ("misdeeds", 0), ("told",), ("fine", 3), ("told",),
+            ("drop", 0), ("told",), ("fair", 1), ("told",), ("begin", 2, 1, 1), ("told",),
+        ]
+        self.assertEqual(ask(*calls)[1::2], [
+            [3, 2, 4, 0], [3, 2, 4, 1, 5, 6], [3, 2, 4, 2, 5, 6, 5, 7], [3, 2, 4, 2, 5, 8, 5, 7],
+            [3, 0, 4, 2, 5, 8, 5, 7], [3, 0, 3, 2, 5, 8, 5, 7], [3, 0, 3, 1, 5, 7],
+            [3, 0, 3, 4, 0, 3, 1, 1, 2, 1, 4, 1], [2, 1, 1, 0],
+        ])
+
+    def test_stays_behind_what_is_refused(self):
+        begun = [("begin", 3, 2, 4), ("plan", 5, 6)]
+        for wrong in (
+            ("begin", 0, 1, 1), ("plan", 8, 1), ("plan", 1, 0), ("drop", 1), ("weight", 1, 1), ("weight", 0, 0),
+            ("misdeeds", 7), ("fine", 0), ("fair", 4), ("seen", 3, 0, 0), ("seen", 1, 0, 0), ("looked", 3),
+            ("worth", 4), ("bestchance", 4, 0), ("bestchance", 0, 8), ("bestlooked", 4),
+        ):
+            heard = ask(*begun, wrong, ("told",))
+            self.assertLess(heard[-2][0], 0, wrong)
+            self.assertEqual(heard[-1], [3, 2, 4, 1, 5, 6], wrong)
+
+    def test_not_begun(self):
+        self.assertEqual(ask(("told",), ("begin", 0, 1, 1), ("told",)), [[-11], [-22], [-11]])
 
 
 if __name__ == "__main__":
