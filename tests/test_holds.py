@@ -85,7 +85,7 @@ class BestPlan(unittest.TestCase):
                     self.check_dares_till_caught(days, looks, misdeeds, fine)
 
     def check_dares_till_caught(self, days, looks, misdeeds, fine):
-        """To dare gets as much as to wait on each day: so they dare each day, till they're caught or all is done."""
+        """To wait never gets more than to dare: so they dare each day, till they're caught or all is done."""
         tries = min(days, misdeeds)
         whole = sum(comb(days, few) * fine ** (looks - few) for few in range(looks + 1))
         unseen = [
